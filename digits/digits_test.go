@@ -8,6 +8,8 @@ import (
 	"strconv"
 	"strings"
 	"testing"
+
+	"trident/internal/short"
 )
 
 // edges are numbers around every place where their texts or reading them
@@ -31,19 +33,6 @@ func edges() []int {
 // readable reports whether n has at most 9 digits.
 func readable(n int) bool {
 	return -999999999 <= n && n <= 999999999
-}
-
-// eachShort calls f with every string of at most most of the bytes of alphabet.
-func eachShort(alphabet string, most int, f func(string)) {
-	f("")
-	if most == 0 {
-		return
-	}
-	for i := range len(alphabet) {
-		eachShort(alphabet, most-1, func(s string) {
-			f(alphabet[i:i+1] + s)
-		})
-	}
 }
 
 // P3.1: the text of a number.
@@ -202,7 +191,7 @@ func checkTake(t *testing.T, s string, at, most int) {
 }
 
 func TestTakeOfEveryIndex(t *testing.T) {
-	eachShort("019-,x", 5, func(s string) {
+	short.Each("019-,x", 5, func(s string) {
 		for at := -1; at <= len(s)+1; at++ {
 			for _, most := range []int{-1, 0, 1, 2, 3, 9} {
 				checkTake(t, s, at, most)
@@ -320,7 +309,7 @@ func unlistByPattern(s string) ([]int, bool) {
 }
 
 func TestShortStringsAreReadAsThePatternsSay(t *testing.T) {
-	eachShort("019-,x ", 6, func(s string) {
+	short.Each("019-,x ", 6, func(s string) {
 		wantN, _ := strconv.Atoi(s)
 		wantOK := anyNumber.MatchString(s)
 		if !wantOK {
@@ -395,7 +384,7 @@ func TestListsAreRecovered(t *testing.T) {
 }
 
 func TestWhatIsReadHasExactlyThatText(t *testing.T) {
-	eachShort("019-,x", 6, func(s string) {
+	short.Each("019-,x", 6, func(s string) {
 		if n, ok := Parse(s); ok && Put(n) != s {
 			t.Fatalf("Parse(%q) is %d, whose text is %q", s, n, Put(n))
 		}

@@ -8,6 +8,7 @@ import (
 	"unicode/utf8"
 
 	"trident/api"
+	"trident/internal/short"
 )
 
 // samples are strings with runes of every length, line ends, and bytes that
@@ -20,19 +21,6 @@ var samples = []string{
 
 // outside are indices that no string of samples has.
 var outside = []int{math.MinInt, math.MinInt32, -2, -1, 1000, math.MaxInt32, math.MaxInt}
-
-// eachShort calls f with every string of at most most of the bytes of alphabet.
-func eachShort(alphabet string, most int, f func(string)) {
-	f("")
-	if most == 0 {
-		return
-	}
-	for i := range len(alphabet) {
-		eachShort(alphabet, most-1, func(s string) {
-			f(alphabet[i:i+1] + s)
-		})
-	}
-}
 
 // P2.1: the rune at the index and its length.
 
@@ -102,7 +90,7 @@ func TestAtOfAllBytes(t *testing.T) {
 	for _, s := range samples {
 		checkAt(t, s)
 	}
-	eachShort("\n a\x7f\x80\x82\xa9\xbf\xc0\xc3\xe2\xed\xf0\xf4\xff", 4, func(s string) {
+	short.Each("\n a\x7f\x80\x82\xa9\xbf\xc0\xc3\xe2\xed\xf0\xf4\xff", 4, func(s string) {
 		checkAt(t, s)
 	})
 }
@@ -137,7 +125,7 @@ func TestCount(t *testing.T) {
 			t.Errorf("Count(%.20q) is %d, want %d", c.s, got, c.want)
 		}
 	}
-	eachShort("\na\x80\x82\xac\xc3\xe2\xed\xf0\xff", 4, func(s string) {
+	short.Each("\na\x80\x82\xac\xc3\xe2\xed\xf0\xff", 4, func(s string) {
 		if got, want := Count(s), utf8.RuneCountInString(s); got != want {
 			t.Errorf("Count(%q) is %d, want %d", s, got, want)
 		}
@@ -224,7 +212,7 @@ func TestPlaceOfEveryIndex(t *testing.T) {
 			checkPlace(t, s, at)
 		}
 	}
-	eachShort("\na\x82\xac\xc3\xe2\xff", 5, func(s string) {
+	short.Each("\na\x82\xac\xc3\xe2\xff", 5, func(s string) {
 		for at := -1; at <= len(s)+1; at++ {
 			checkPlace(t, s, at)
 		}
@@ -392,7 +380,7 @@ func TestRunesTogetherAreTheString(t *testing.T) {
 	for _, s := range samples {
 		checkSteps(t, s)
 	}
-	eachShort("\na\x82\xac\xc3\xe2\xed\xf0\xff", 5, func(s string) {
+	short.Each("\na\x82\xac\xc3\xe2\xed\xf0\xff", 5, func(s string) {
 		checkSteps(t, s)
 	})
 }
