@@ -7,98 +7,13 @@ import (
 	"testing"
 
 	"trident/api"
+	"trident/internal/grammar"
 	"trident/tokens"
 )
 
-// grammar is the grammar of the chapter. What stands between < and > is a block or
-// an expr in parentheses, which is one level deeper.
-const grammar = `
-file = { card | place } ;
-card = "card" NAME "cost" INT "power" SIGNED "{" { rule } "}" ;
-place = "place" NAME "{" { rule } "}" ;
-rule = when "{" { act } "}" ;
-when = "reveal" | "death" | "moved" | "end" | "enter" | "always" INT ;
-acts = { act } ;
-act = "power" sel expr ";" | "set" sel expr ";" | "destroy" sel ";" | "move" sel to ";" | "return" sel ";"
-	| "spawn" NAME side to expr ";" | "draw" side expr ";" | "discard" side how ";" | "energy" side expr ";"
-	| "aura" sel expr ";" | "double" side to ";" | "shield" sel ";" | "bar" side to ";"
-	| "if" cond block [ "else" block ] | "each" sel block ;
-block = < "{" { act } "}" > ;
-sel = "me" | "it" | "(" side where { filter } pick ")" ;
-side = "mine" | "theirs" | "both" ;
-where = "here" | "away" | "lane" INT | "anywhere" ;
-filter = "cost" op SIGNED | "power" op SIGNED | "named" NAME | "not" "me" | "not" "it" ;
-pick = "all" | "first" | "last" | "weakest" | "strongest" ;
-to = "here" | "left" | "right" | "lane" INT ;
-how = "first" | "last" | "cheapest" | "costliest" ;
-cond = expr op expr ;
-op = "<" | "<=" | "=" | "!=" | ">=" | ">" ;
-expr = product { "+" product | "-" product } ;
-product = factor { "*" factor } ;
-factor = SIGNED | < "(" expr ")" > | "count" sel | "sum" sel | "round" | "hand" side | "free" side to ;
-SIGNED = [ "-" ] INT ;
-`
-
-// The kinds of parts of the grammar.
-const (
-	token = iota // with that text
-	symbol
-	sequence
-	choice
-	repeated
-	optional
-	deeper
-)
-
-// part is a part of the grammar.
-type part struct {
-	kind  int
-	text  string
-	parts []part
-}
-
-// readGrammar returns the definitions of the symbols of the grammar.
-func readGrammar() map[string]part {
-	symbols := map[string]part{}
-	rest := strings.Fields(grammar)
-	for len(rest) > 0 {
-		name := rest[0]
-		symbols[name], rest = readChoice(rest[2:], ";")
-	}
-	return symbols
-}
-
-// readChoice reads what ends with that field, and returns what stands behind it.
-func readChoice(rest []string, end string) (part, []string) {
-	all := part{kind: choice, parts: []part{{kind: sequence}}}
-	brackets := map[string]struct {
-		kind int
-		end  string
-	}{"{": {repeated, "}"}, "[": {optional, "]"}, "<": {deeper, ">"}}
-	for rest[0] != end {
-		field := rest[0]
-		rest = rest[1:]
-		last := &all.parts[len(all.parts)-1]
-		bracket, opens := brackets[field]
-		switch {
-		case field == "|":
-			all.parts = append(all.parts, part{kind: sequence})
-		case opens:
-			var inner part
-			inner, rest = readChoice(rest, bracket.end)
-			last.parts = append(last.parts, part{kind: bracket.kind, parts: []part{inner}})
-		case strings.HasPrefix(field, "\"") || field == "INT" || field == "NAME":
-			last.parts = append(last.parts, part{kind: token, text: field})
-		default:
-			last.parts = append(last.parts, part{kind: symbol, text: field})
-		}
-	}
-	return all, rest[1:]
-}
-
 // judge finds out where tokens leave the grammar, by trying all that it offers.
 type judge struct {
-	symbols map[string]part
+	symbols grammar.Grammar
 	list    []api.Tok
 	// far is the last token at which all that was tried ended, deep the last one that
 	// was too deep.
@@ -118,40 +33,40 @@ func fits(tok api.Tok, text string) bool {
 }
 
 // ends returns where the part may end that begins at one of those tokens.
-func (j *judge) ends(p part, begins []int, depth int) []int {
+func (j *judge) ends(p grammar.Part, begins []int, depth int) []int {
 	var all []int
 	if len(begins) == 0 {
 		return all
 	}
-	switch p.kind {
-	case token:
+	switch p.Kind {
+	case grammar.Token:
 		for _, i := range begins {
-			if fits(j.list[i], p.text) {
+			if fits(j.list[i], p.Text) {
 				all = append(all, i+1)
 			} else {
 				j.far = max(j.far, i)
 			}
 		}
-	case symbol:
-		return j.ends(j.symbols[p.text], begins, depth)
-	case sequence:
-		for _, q := range p.parts {
+	case grammar.Symbol:
+		return j.ends(j.symbols[p.Text], begins, depth)
+	case grammar.Sequence:
+		for _, q := range p.Parts {
 			begins = j.ends(q, begins, depth)
 		}
 		return begins
-	case choice:
-		for _, q := range p.parts {
+	case grammar.Choice:
+		for _, q := range p.Parts {
 			all = append(all, j.ends(q, begins, depth)...)
 		}
-	case repeated:
+	case grammar.Repeated:
 		for len(begins) > 0 {
 			all = append(all, begins...)
-			begins = j.ends(p.parts[0], begins, depth)
+			begins = j.ends(p.Parts[0], begins, depth)
 		}
-	case optional:
-		all = append(slices.Clone(begins), j.ends(p.parts[0], begins, depth)...)
-	case deeper:
-		return j.ends(p.parts[0], j.allowed(p, begins, depth), depth+1)
+	case grammar.Optional:
+		all = append(slices.Clone(begins), j.ends(p.Parts[0], begins, depth)...)
+	case grammar.Deeper:
+		return j.ends(p.Parts[0], j.allowed(p, begins, depth), depth+1)
 	}
 	slices.Sort(all)
 	return slices.Compact(all)
@@ -159,13 +74,13 @@ func (j *judge) ends(p part, begins []int, depth int) []int {
 
 // allowed returns those tokens at which the part, which is one level deeper, may begin:
 // none of them if it is too deep.
-func (j *judge) allowed(p part, begins []int, depth int) []int {
+func (j *judge) allowed(p grammar.Part, begins []int, depth int) []int {
 	if depth < deepest {
 		return begins
 	}
-	first := p.parts[0].parts[0].parts[0]
+	first := p.Parts[0].Parts[0].Parts[0]
 	for _, i := range begins {
-		if fits(j.list[i], first.text) {
+		if fits(j.list[i], first.Text) {
 			j.deep = max(j.deep, i)
 		}
 		j.far = max(j.far, i)
@@ -174,7 +89,7 @@ func (j *judge) allowed(p part, begins []int, depth int) []int {
 }
 
 // judged returns the fault that the text has as a symbol of the grammar.
-func judged(symbols map[string]part, name, s string) api.Fault {
+func judged(symbols grammar.Grammar, name, s string) api.Fault {
 	list, fault := tokens.Scan(s)
 	if fault.E != api.OK {
 		return fault
@@ -198,7 +113,7 @@ func judged(symbols map[string]part, name, s string) api.Fault {
 }
 
 // checkJudged checks the faults of a text as an expr, as acts and as a file.
-func checkJudged(t *testing.T, symbols map[string]part, s string) {
+func checkJudged(t *testing.T, symbols grammar.Grammar, s string) {
 	t.Helper()
 	checkFault(t, "as an expr", s, Expr, judged(symbols, "expr", s))
 	checkFault(t, "as acts", s, Acts, judged(symbols, "acts", s))
@@ -211,7 +126,7 @@ func checkJudged(t *testing.T, symbols map[string]part, s string) {
 // P11.1 and P11.2: the grammar of the chapter.
 
 func TestGrammarOfTheTexts(t *testing.T) {
-	symbols := readGrammar()
+	symbols := grammar.Read(grammar.Cards)
 	for _, c := range exprs {
 		checkJudged(t, symbols, c.s)
 	}
@@ -228,93 +143,24 @@ func TestGrammarOfTheTexts(t *testing.T) {
 	}
 }
 
-// writer writes drawn texts of the grammar.
-type writer struct {
-	symbols map[string]part
-	draws   *rand.Rand
-	// room is about how many tokens may still be written, deep how many of 10 choices
-	// are the deepest one.
-	room, deep int
-	list       []string
-}
-
-// write writes a part. The first of several choices needs no further room.
-func (w *writer) write(p part) {
-	switch p.kind {
-	case token:
-		w.room--
-		w.list = append(w.list, w.token(p.text))
-	case symbol:
-		w.write(w.symbols[p.text])
-	case choice:
-		w.write(w.choose(p.parts))
-	case sequence, deeper:
-		for _, q := range p.parts {
-			w.write(q)
-		}
-	case optional:
-		if w.draws.Intn(2) == 0 {
-			w.write(p.parts[0])
-		}
-	case repeated:
-		for w.room > 0 && w.draws.Intn(3) > 0 {
-			w.write(p.parts[0])
-		}
-	}
-}
-
-// choose returns one of several parts.
-func (w *writer) choose(parts []part) part {
-	if w.room < 0 {
-		return parts[0]
-	}
-	if w.draws.Intn(10) < w.deep {
-		for _, p := range parts {
-			if slices.ContainsFunc(p.parts, func(q part) bool { return q.kind == deeper || q.text == "block" }) {
-				return p
-			}
-		}
-	}
-	return parts[w.draws.Intn(len(parts))]
-}
-
-// token returns a token that the grammar writes so.
-func (w *writer) token(text string) string {
-	switch text {
-	case "INT":
-		return []string{"0", "1", "2", "3", "9", "42", "99"}[w.draws.Intn(7)]
-	case "NAME":
-		return []string{"\"A\"", "\"Éé\"", "\"me\"", "\"7\"", "\"-\""}[w.draws.Intn(5)]
-	default:
-		return strings.Trim(text, "\"")
-	}
-}
-
-// written returns the tokens of a drawn text of a symbol.
-func written(symbols map[string]part, draws *rand.Rand, name string, room, deep int) []string {
-	w := &writer{symbols: symbols, draws: draws, room: room, deep: deep}
-	w.write(symbols[name])
-	return w.list
-}
-
 func TestDrawnTextsOfTheGrammar(t *testing.T) {
-	symbols := readGrammar()
+	symbols := grammar.Read(grammar.Cards)
 	draws := rand.New(rand.NewSource(11))
 	for n := range 2000 {
 		for _, name := range []string{"expr", "acts", "file"} {
-			list := written(symbols, draws, name, n%60, 0)
+			list := symbols.Draw(name, draws.Intn, n%60, 0)
 			checkJudged(t, symbols, strings.Join(list, " "))
 		}
 	}
 }
 
 func TestDrawnDeepTextsOfTheGrammar(t *testing.T) {
-	symbols := readGrammar()
+	symbols := grammar.Read(grammar.Cards)
 	draws := rand.New(rand.NewSource(112))
 	faults := map[api.Errno]int{}
 	for n := range 2000 {
 		for _, name := range []string{"expr", "acts", "file"} {
-			s := strings.Join(written(symbols, draws, name, n%100, 4+n%6), " ")
+			s := strings.Join(symbols.Draw(name, draws.Intn, n%100, 4+n%6), " ")
 			checkJudged(t, symbols, s)
 			faults[judged(symbols, name, s).E]++
 		}
@@ -328,7 +174,7 @@ func TestDrawnDeepTextsOfTheGrammar(t *testing.T) {
 // names and numbers.
 func telling() []string {
 	list := []string{"x", "lanes", "A", "0", "7", "\"me\"", "\"A\"", "\"-\""}
-	for _, field := range strings.Fields(grammar) {
+	for _, field := range strings.Fields(grammar.Cards) {
 		if text := strings.Trim(field, "\""); text != field && !slices.Contains(list, text) {
 			list = append(list, text)
 		}
@@ -338,12 +184,12 @@ func telling() []string {
 
 // Texts of the grammar with one token changed, left out or added, and cut off.
 func TestSpoiledTextsOfTheGrammar(t *testing.T) {
-	symbols := readGrammar()
+	symbols := grammar.Read(grammar.Cards)
 	draws := rand.New(rand.NewSource(113))
 	others := telling()
 	for n := range 500 {
 		name := []string{"expr", "acts", "file"}[n%3]
-		list := written(symbols, draws, name, n%40, n%8)
+		list := symbols.Draw(name, draws.Intn, n%40, n%8)
 		for i := range list {
 			other := others[draws.Intn(len(others))]
 			changed := slices.Clone(list)
@@ -358,7 +204,7 @@ func TestSpoiledTextsOfTheGrammar(t *testing.T) {
 
 // Every token behind every beginning of a text that has everything in it.
 func TestEveryTokenBehindEveryBeginning(t *testing.T) {
-	symbols := readGrammar()
+	symbols := grammar.Read(grammar.Cards)
 	others := telling()
 	for _, s := range []string{
 		"count me - - 3 * ( sum ( mine here cost < - 1 power != 2 named \"A\" not me not it all ) + hand mine ) - free both lane 2 * free theirs left + round",
@@ -377,7 +223,7 @@ func TestEveryTokenBehindEveryBeginning(t *testing.T) {
 
 // Short texts of telling tokens, all of them.
 func TestShortTexts(t *testing.T) {
-	symbols := readGrammar()
+	symbols := grammar.Read(grammar.Cards)
 	for _, c := range []struct {
 		most int
 		list []string
