@@ -9,48 +9,9 @@ import (
 	"testing"
 
 	"trident/api"
+	"trident/internal/odd"
 	"trident/syntax"
 )
-
-// fill sets all that v holds to drawn numbers and texts, most of which no text has, and to
-// lists that are at most deep inside each other and have drawn items behind their ends.
-func fill(draws *rand.Rand, v reflect.Value, deep int) {
-	switch v.Kind() {
-	case reflect.Int:
-		v.SetInt(int64(drawnNumber(draws)))
-	case reflect.String:
-		v.SetString([]string{"", "A", "Dust Cat", "\"", "\xff\xfe", "a\nb", "( ; )", "é"}[draws.Intn(8)])
-	case reflect.Struct:
-		for i := range v.NumField() {
-			fill(draws, v.Field(i), deep)
-		}
-	case reflect.Slice:
-		if deep == 0 {
-			return
-		}
-		n := draws.Intn(3)
-		all := reflect.MakeSlice(v.Type(), n, n+draws.Intn(2))
-		v.Set(all)
-		for i := range all.Cap() {
-			fill(draws, all.Slice(0, all.Cap()).Index(i), deep-1)
-		}
-	}
-}
-
-// drawnNumber returns a number: mostly one of those that are kinds and words.
-func drawnNumber(draws *rand.Rand) int {
-	if draws.Intn(20) > 0 {
-		return draws.Intn(20) - 2
-	}
-	return []int{math.MinInt, math.MinInt + 1, -100, 100, 999, math.MaxInt - 1, math.MaxInt}[draws.Intn(7)]
-}
-
-// drawn returns a drawn value.
-func drawn[T any](draws *rand.Rand, deep int) T {
-	var tree T
-	fill(draws, reflect.ValueOf(&tree).Elem(), deep)
-	return tree
-}
 
 // cloned returns v with lists of its own, each as long as length says.
 func cloned(v reflect.Value, length func(reflect.Value) int) reflect.Value {
@@ -149,9 +110,9 @@ func checkStrip(t *testing.T, what string, file api.File) {
 // P12.2: Strip.
 
 func TestStripOfDrawnFiles(t *testing.T) {
-	draws := rand.New(rand.NewSource(123))
+	pen := odd.Pen{Draw: rand.New(rand.NewSource(123)).Intn}
 	for n := range 300 {
-		checkStrip(t, "a drawn file", drawn[api.File](draws, n%7))
+		checkStrip(t, "a drawn file", pen.File(n%7))
 	}
 }
 
@@ -330,10 +291,10 @@ func checkEnds(t *testing.T, file api.File, acts []api.Act, sel api.Sel, expr ap
 }
 
 func TestDrawnTreesThatNoTextHas(t *testing.T) {
-	draws := rand.New(rand.NewSource(124))
+	pen := odd.Pen{Draw: rand.New(rand.NewSource(124)).Intn}
 	for n := range 300 {
 		deep := n % 6
-		checkEnds(t, drawn[api.File](draws, deep), drawn[[]api.Act](draws, deep), drawn[api.Sel](draws, deep), drawn[api.Expr](draws, deep))
+		checkEnds(t, pen.File(deep), pen.Acts(deep), pen.Sel(deep), pen.Expr(deep))
 	}
 }
 
