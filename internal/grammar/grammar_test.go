@@ -57,18 +57,43 @@ func TestRead(t *testing.T) {
 	}
 }
 
-func TestEverySymbolOfCardsIsDefined(t *testing.T) {
-	g := Read(Cards)
+func TestEverySymbolIsDefined(t *testing.T) {
+	for _, g := range []Grammar{Read(Cards), Valid()} {
+		var check func(p Part)
+		check = func(p Part) {
+			if _, ok := g[p.Text]; p.Kind == Symbol && !ok {
+				t.Errorf("%s is not defined", p.Text)
+			}
+			for _, q := range p.Parts {
+				check(q)
+			}
+		}
+		for _, p := range g {
+			check(p)
+		}
+	}
+}
+
+// Drawn texts without faults have all the tokens that texts of cards and locations have.
+func TestDrawnTextsOfValid(t *testing.T) {
+	g := Valid()
+	seen := map[string]int{}
+	draws := rand.New(rand.NewSource(4))
+	for n := range 2000 {
+		for _, text := range g.Draw("file", draws.Intn, n%100, n%8) {
+			seen[text]++
+		}
+	}
 	var check func(p Part)
 	check = func(p Part) {
-		if _, ok := g[p.Text]; p.Kind == Symbol && !ok {
-			t.Errorf("%s is not defined", p.Text)
+		if text := strings.Trim(p.Text, "\""); p.Kind == Token && text != p.Text && seen[text] == 0 {
+			t.Errorf("%s is never drawn", text)
 		}
 		for _, q := range p.Parts {
 			check(q)
 		}
 	}
-	for _, p := range g {
+	for _, p := range Read(Cards) {
 		check(p)
 	}
 }
