@@ -3,24 +3,15 @@ package code
 import (
 	"fmt"
 	"slices"
-	"strconv"
 	"strings"
 	"testing"
 
 	"trident/api"
+	"trident/internal/listing"
 	"trident/lint"
 	"trident/syntax"
 	"trident/unparse"
 )
-
-// mnemonics are the words of the instructions, at their numbers.
-var mnemonics = []string{
-	api.IPush: "push", api.ICount: "count", api.ISum: "sum", api.IRound: "round", api.IHand: "hand", api.IFree: "free",
-	api.IAdd: "add", api.ISub: "sub", api.IMul: "mul", api.IPower: "power", api.ISet: "set", api.IDestroy: "destroy",
-	api.IMove: "move", api.IReturn: "return", api.ISpawn: "spawn", api.IDraw: "draw", api.IDiscard: "discard", api.IEnergy: "energy",
-	api.ITest: "test", api.IJump: "jump", api.IEach: "each", api.INext: "next", api.IAura: "aura", api.IDouble: "double",
-	api.IShield: "shield", api.IBar: "bar",
-}
 
 // parse returns the tree of a text that has no fault.
 func parse[T any](t *testing.T, s string, read func(string) (T, api.Fault)) T {
@@ -32,68 +23,14 @@ func parse[T any](t *testing.T, s string, read func(string) (T, api.Fault)) T {
 	return tree
 }
 
-// program returns the program with that listing: instructions with marks ; between them, of
-// each its word and then A, B and C, of which those that are not there are 0. Where A is a
-// sel or a name, that stands there, and is the next one of the program's list.
-func program(t *testing.T, listing string) api.Program {
+// program returns the program with that listing.
+func program(t *testing.T, text string) api.Program {
 	t.Helper()
-	var p api.Program
-	for _, line := range strings.Split(listing, ";") {
-		word, rest, _ := strings.Cut(strings.TrimSpace(line), " ")
-		if word == "" {
-			continue
-		}
-		ins := api.Ins{Op: slices.Index(mnemonics, word)}
-		fields := []*int{&ins.A, &ins.B, &ins.C}
-		listed := strings.TrimRight(rest, "-0123456789 ")
-		switch {
-		case strings.HasPrefix(listed, "\""):
-			ins.A = len(p.Names)
-			p.Names = append(p.Names, strings.Trim(listed, "\""))
-			fields = fields[1:]
-		case listed != "":
-			ins.A = len(p.Sels)
-			p.Sels = append(p.Sels, parse(t, "count "+listed, syntax.Expr).Sel)
-			fields = fields[1:]
-		}
-		for i, text := range strings.Fields(rest[len(listed):]) {
-			n, err := strconv.Atoi(text)
-			if err != nil || ins.Op < 1 {
-				t.Fatalf("%q is no listing", line)
-			}
-			*fields[i] = n
-		}
-		p.Code = append(p.Code, ins)
+	p, ok := listing.Program(text)
+	if !ok {
+		t.Fatalf("%q is no listing", text)
 	}
 	return p
-}
-
-// join returns the concatenation of programs, with the indices in each one increased by the
-// numbers of entries before it.
-func join(programs ...api.Program) api.Program {
-	var all api.Program
-	for _, p := range programs {
-		codes, sels, names := len(all.Code), len(all.Sels), len(all.Names)
-		for _, ins := range p.Code {
-			switch ins.Op {
-			case api.ICount, api.ISum, api.IPower, api.ISet, api.IDestroy, api.IMove, api.IReturn, api.IAura, api.IShield:
-				ins.A += sels
-			case api.ISpawn:
-				ins.A += names
-			case api.IEach:
-				ins.A += sels
-				ins.B += codes
-			case api.ITest:
-				ins.B += codes
-			case api.IJump, api.INext:
-				ins.A += codes
-			}
-			all.Code = append(all.Code, ins)
-		}
-		all.Sels = append(all.Sels, p.Sels...)
-		all.Names = append(all.Names, p.Names...)
-	}
-	return all
 }
 
 // shown writes a value. An empty list is written as nil is.
@@ -153,7 +90,7 @@ func checkActs(t *testing.T, s string, want api.Program) bool {
 			t.Errorf("%.3000s\nhas %d instructions and is of size %d", s, got, size)
 		}
 	}
-	checkProgram(t, s+", twice,", Acts(slices.Concat(acts, acts)), join(want, want))
+	checkProgram(t, s+", twice,", Acts(slices.Concat(acts, acts)), listing.Join(want, want))
 	if shown(acts) != before {
 		t.Errorf("of %s\nthe calls made %s", before, shown(acts))
 	}
@@ -166,33 +103,33 @@ type context struct{ before, behind, first, last string }
 
 // contexts returns texts around acts whose program has so many instructions.
 func contexts(size int) []context {
-	listing := fmt.Sprintf
+	text := fmt.Sprintf
 	return []context{
 		{"", "", "", ""},
 		{"destroy me;", "draw mine 1;", "destroy me", "push 1; draw 1"},
 		{"spawn \"B\" both here count (both away all);", "spawn \"B\" both lane 3 2;", "count (both away all); spawn \"B\" 3 8", "push 2; spawn \"B\" 3 35"},
 		{"shield (both here all);", "aura (both here all) 1;", "shield (both here all)", "push 1; aura (both here all)"},
-		{"if 1 < round {", "}", listing("push 1; round; test 1 %d", size+3), ""},
-		{"if count (both here all) >= 2 {", "} else { }", listing("count (both here all); push 2; test 5 %d", size+3), ""},
-		{"if 3 = 4 {", "} else { if 5 < 6 { } }", listing("push 3; push 4; test 3 %d", size+4), "jump 4; push 5; push 6; test 1 4"},
-		{"if 3 != 4 { } else {", "}", listing("push 3; push 4; test 4 4; jump %d", size+4), ""},
-		{"if 3 != 4 { if 5 < 6 { } } else {", "}", listing("push 3; push 4; test 4 7; push 5; push 6; test 1 6; jump %d", size+7), ""},
-		{"each (both anywhere first) {", "}", listing("each (both anywhere first) %d", size+2), listing("next %d", -size)},
+		{"if 1 < round {", "}", text("push 1; round; test 1 %d", size+3), ""},
+		{"if count (both here all) >= 2 {", "} else { }", text("count (both here all); push 2; test 5 %d", size+3), ""},
+		{"if 3 = 4 {", "} else { if 5 < 6 { } }", text("push 3; push 4; test 3 %d", size+4), "jump 4; push 5; push 6; test 1 4"},
+		{"if 3 != 4 { } else {", "}", text("push 3; push 4; test 4 4; jump %d", size+4), ""},
+		{"if 3 != 4 { if 5 < 6 { } } else {", "}", text("push 3; push 4; test 4 7; push 5; push 6; test 1 6; jump %d", size+7), ""},
+		{"each (both anywhere first) {", "}", text("each (both anywhere first) %d", size+2), text("next %d", -size)},
 		{
 			"each (both anywhere first) { return it;", "destroy it; } return (both here all);",
-			listing("each (both anywhere first) %d; return it", size+4), listing("destroy it; next %d; return (both here all)", -size-1),
+			text("each (both anywhere first) %d; return it", size+4), text("destroy it; next %d; return (both here all)", -size-1),
 		},
 	}
 }
 
 // checkEverywhere checks the program of acts alone, between others, and in blocks, where
 // lint accepts them; it must do so somewhere.
-func checkEverywhere(t *testing.T, s, listing string) {
+func checkEverywhere(t *testing.T, s, listed string) {
 	t.Helper()
-	want := program(t, listing)
+	want := program(t, listed)
 	accepted := 0
 	for _, c := range contexts(len(want.Code)) {
-		if checkActs(t, c.before+s+c.behind, join(program(t, c.first), want, program(t, c.last))) {
+		if checkActs(t, c.before+s+c.behind, listing.Join(program(t, c.first), want, program(t, c.last))) {
 			accepted++
 		}
 	}
@@ -212,12 +149,12 @@ func speaksOfIt(s string) bool {
 }
 
 // checkExpr checks the program of an expr alone, as an operand, and in acts.
-func checkExpr(t *testing.T, s, listing string) {
+func checkExpr(t *testing.T, s, listed string) {
 	t.Helper()
-	want := program(t, listing)
+	want := program(t, listed)
 	whole := func(s string, parts ...api.Program) {
 		t.Helper()
-		checkProgram(t, s, Expr(parse(t, s, syntax.Expr)), join(parts...))
+		checkProgram(t, s, Expr(parse(t, s, syntax.Expr)), listing.Join(parts...))
 	}
 	whole(s, want)
 	for sign, op := range map[string]string{"+": "add", "-": "sub", "*": "mul"} {
@@ -236,13 +173,13 @@ func checkExpr(t *testing.T, s, listing string) {
 		{"aura (both lane 2 not me all) %s;", "aura (both lane 2 not me all)"},
 	} {
 		if !continuous(c[0]) || !speaksOfIt(s) {
-			checkEverywhere(t, strings.Replace(c[0], "%s", s, 1), listing+";"+c[1])
+			checkEverywhere(t, strings.Replace(c[0], "%s", s, 1), listed+";"+c[1])
 		}
 	}
 	n := len(want.Code)
-	checkEverywhere(t, "if "+s+" != 7 { }", listing+fmt.Sprintf("; push 7; test 4 %d", n+2))
-	checkEverywhere(t, "if 7 > "+s+" { }", "push 7;"+listing+fmt.Sprintf("; test 6 %d", n+2))
-	checkEverywhere(t, "if "+s+" < "+s+" { }", listing+";"+listing+fmt.Sprintf("; test 1 %d", 2*n+1))
+	checkEverywhere(t, "if "+s+" != 7 { }", listed+fmt.Sprintf("; push 7; test 4 %d", n+2))
+	checkEverywhere(t, "if 7 > "+s+" { }", "push 7;"+listed+fmt.Sprintf("; test 6 %d", n+2))
+	checkEverywhere(t, "if "+s+" < "+s+" { }", listed+";"+listed+fmt.Sprintf("; test 1 %d", 2*n+1))
 }
 
 // The chapter's example.

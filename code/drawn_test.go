@@ -8,7 +8,8 @@ import (
 	"testing"
 
 	"trident/api"
-	"trident/internal/grammar"
+	"trident/internal/listing"
+	"trident/internal/rules"
 	"trident/lint"
 	"trident/syntax"
 	"trident/unparse"
@@ -231,39 +232,17 @@ func exprs(acts []api.Act, f func(api.Expr)) {
 	}
 }
 
-// drawRules returns rules of cards and locations that lint accepts, without positions: those
-// of so many texts of up to about room tokens.
-func drawRules(t *testing.T, seed int64, texts, room int) []api.Rule {
-	t.Helper()
-	g := grammar.Valid()
-	draws := rand.New(rand.NewSource(seed))
-	var list []api.Rule
-	for n := range texts {
-		s := strings.Join(g.Draw([]string{"card", "place"}[n%2], draws.Intn, n%room, n%7), " ")
-		file, fault := syntax.Parse(s)
-		if fault.E == api.ErrDepth || lint.Check(file).E == api.ErrLong {
-			continue
-		}
-		if fault = lint.Check(file); fault.E != api.OK {
-			t.Fatalf("%s\nhas the fault %v", s, fault)
-		}
-		file = unparse.Strip(file)
-		for _, c := range file.Cards {
-			list = append(list, c.Rules...)
-		}
-		for _, p := range file.Places {
-			list = append(list, p.Rules...)
-		}
-	}
-	return list
+// drawRules returns rules that lint accepts, of so many texts of up to about room tokens.
+func drawRules(seed int64, texts, room int) []api.Rule {
+	return rules.Draw(rand.New(rand.NewSource(seed)).Intn, texts, room)
 }
 
 // P14.1 and P14.2: the acts and the exprs of drawn rules are read back from their programs,
 // which are of their sizes.
 func TestDrawnRules(t *testing.T) {
-	rules := drawRules(t, 141, 12000, 150)
+	all := drawRules(141, 12000, 150)
 	used := map[int]int{}
-	for _, r := range rules {
+	for _, r := range all {
 		p := Rule(r)
 		for _, ins := range p.Code {
 			used[ins.Op]++
@@ -288,23 +267,23 @@ func TestDrawnRules(t *testing.T) {
 	}
 	for op := api.IPush; op <= api.IBar; op++ {
 		if used[op] < 100 {
-			t.Errorf("the instruction %s comes only %d times", mnemonics[op], used[op])
+			t.Errorf("the instruction %s comes only %d times", listing.Mnemonic(op), used[op])
 		}
 	}
-	if len(rules) < 4000 {
-		t.Errorf("there are only %d rules", len(rules))
+	if len(all) < 4000 {
+		t.Errorf("there are only %d rules", len(all))
 	}
 }
 
 // P14.2: the programs of drawn lists of acts that are concatenated.
 func TestDrawnConcatenations(t *testing.T) {
-	rules := drawRules(t, 142, 4000, 400)
+	all := drawRules(142, 4000, 400)
 	draws := rand.New(rand.NewSource(143))
 	many, long := 0, 0
 	for range 20000 {
-		first, last := rules[draws.Intn(len(rules))].Acts, rules[draws.Intn(len(rules))].Acts
+		first, last := all[draws.Intn(len(all))].Acts, all[draws.Intn(len(all))].Acts
 		both := slices.Concat(first, last)
-		want := join(Acts(first), Acts(last))
+		want := listing.Join(Acts(first), Acts(last))
 		if len(both) > api.MaxActs {
 			many++
 		}
@@ -343,10 +322,10 @@ func TestGreatConcatenations(t *testing.T) {
 		for j, other := range lists {
 			last := parse(t, other, syntax.Acts)
 			what := fmt.Sprintf("lists %d and %d", i, j)
-			both := join(Acts(first), Acts(last))
+			both := listing.Join(Acts(first), Acts(last))
 			checkProgram(t, what, Acts(slices.Concat(first, last)), both)
 			checkProgram(t, what, Rule(api.Rule{Acts: slices.Concat(first, last)}), both)
-			checkProgram(t, what+", twice", Acts(slices.Concat(first, last, first, last)), join(both, both))
+			checkProgram(t, what+", twice", Acts(slices.Concat(first, last, first, last)), listing.Join(both, both))
 			checkProgram(t, what+", as a text", Acts(parse(t, s+other, syntax.Acts)), both)
 		}
 	}
